@@ -1,0 +1,1 @@
+"""Squares filled by a rule, for all sizes at once."""
