@@ -75,7 +75,7 @@ class Calendar:
 
     def at(self, k):
         """Return the size with the number k in ascending order, from 0 on."""
-        if k < 0 or not self._chosen and k >= len(self._extra):
+        if k < 0 or (not self._chosen and k >= len(self._extra)):
             raise InvalidNumber(k)
         if not self._chosen:
             return self.extra[k]
