@@ -22,6 +22,40 @@ RULES = """
 [3, True, [[0, 0], [0, 0]]]
 """
 
+LINES = """
+>>> from rulesquares.lines import clear_sizes, is_clear, is_paired, pair_sizes, quarrel, same_sizes, same_turned, twins
+>>> from rulesquares.rules import Rule
+>>> queens = Rule(2, 1, 0)
+>>> [clear_sizes(queens, [(0, 1), (1, 0), (1, 1), (-1, 1)]).number, is_clear(queens, 9, (1, 1)), quarrel(queens, 9, (1, 1)), quarrel(queens, 9, (0, 1)), is_paired(queens, Rule(1, 2, 0), 10), pair_sizes(queens, Rule(4, 2, 0)).extra]
+[6, False, (3, 3), None, True, [1]]
+>>> turns = same_turned(Rule(1, 1, 0), Rule(1, 1, 0))
+>>> [same_sizes(queens, Rule(8, 1, 6)).extra, turns[0][0], 7 in turns[0][1], 7 in turns[1][1], same_turned(queens, Rule(1, 2, 0))[6][1].divisors, twins(queens, Rule(1, 2, 0), 9), twins(queens, Rule(1, 2, 0), 10)]
+[[1, 2, 3, 6], 'same', True, False, [1], ((0, 0), (3, 3)), None]
+"""
+
+NUMBERS = """
+>>> from rulesquares.numbers import Numbers, alike_sizes, even_sizes, even_sum, magic_sizes, main_sizes, once_sizes, unlike_line, whole_sizes
+>>> from rulesquares.rules import Rule
+>>> plain = Numbers(Rule(1, 0, 0), Rule(0, 1, 0))
+>>> [plain.square(2), plain.line_sum(3, (0, 1), 1, 0), plain.main_sums(3), even_sum(3), once_sizes(plain).divisors, alike_sizes(plain, (0, 1)).extra, even_sizes(plain, (1, 1)).number, main_sizes(plain).number]
+[[[1, 2], [3, 4]], 15, (15, 15), 15, [1], [1], 1, 1]
+>>> odd = Numbers(Rule(1, 2, 1), Rule(2, -1, 0))
+>>> [odd.square(3), magic_sizes(odd).number, magic_sizes(odd).divisors, whole_sizes(odd).number, unlike_line(odd, 3, (1, 1)), unlike_line(plain, 3, (0, 1))]
+[[[4, 3, 8], [9, 5, 1], [2, 7, 6]], 10, [1], 30, (0, 1), (1, 0)]
+"""
+
+PLACES = """
+>>> from rulesquares.numbers import Numbers
+>>> from rulesquares.places import cells_of, columns_of, overlap, rows_of
+>>> from rulesquares.rules import Rule
+>>> four = Rule(1, 4, 0)
+>>> [columns_of(four, 6, 1, 3), columns_of(four, 6, 1, 2), rows_of(four, 6, 5, 0), columns_of(Rule(2, 1, 0), 10 ** 29, 3, 5)]
+[(2, 3, 2), None, (4, 6, 1), (99999999999999999999999999999, 100000000000000000000000000000, 1)]
+>>> odd = Numbers(Rule(1, 2, 1), Rule(2, -1, 0))
+>>> [cells_of(odd, 3, 9), cells_of(odd, 3, 10), overlap(Rule(1, 1, 0), Rule(1, -1, 0), 4, 2, 0), overlap(Rule(1, 1, 0), Rule(1, -1, 0), 4, 1, 0)]
+[(1, (1, 0)), (0, None), (2, (1, 1)), (0, None)]
+"""
+
 
 class Examples(unittest.TestCase):
     def check(self, text):
@@ -36,3 +70,12 @@ class Examples(unittest.TestCase):
 
     def test_rules(self):
         self.check(RULES)
+
+    def test_lines(self):
+        self.check(LINES)
+
+    def test_numbers(self):
+        self.check(NUMBERS)
+
+    def test_places(self):
+        self.check(PLACES)
