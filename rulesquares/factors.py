@@ -1,8 +1,8 @@
-"""Primes and divisors of an integer of at least 1."""
+"""Primes and divisors of integers."""
 
 
 def prime_list(number):
-    """Return the ascending list of the primes that divide a number."""
+    """Return the ascending list of the primes that divide a number of at least 1."""
     primes = []
     rest = number
     prime = 2
@@ -18,7 +18,7 @@ def prime_list(number):
 
 
 def divisor_list(number):
-    """Return the ascending list of the divisors of a number."""
+    """Return the ascending list of the divisors of a number of at least 1."""
     divisors = [1]
     for prime in prime_list(number):
         without = divisors
@@ -27,3 +27,15 @@ def divisor_list(number):
             divisors = divisors + [divisor * power for divisor in without]
             power = power * prime
     return sorted(divisors)
+
+
+def prime_product(numbers):
+    """Return the product of all primes that divide one of some numbers, 0 if one of these is 0."""
+    if 0 in numbers:
+        return 0
+    product = 1
+    for number in numbers:
+        for prime in prime_list(abs(number)):
+            if product % prime != 0:
+                product = product * prime
+    return product

@@ -3,16 +3,15 @@
 from math import gcd
 
 from rulesquares.calendars import Calendar
-from rulesquares.errors import InvalidSize
-from rulesquares.factors import divisor_list, prime_list
+from rulesquares.checks import check_size
+from rulesquares.factors import divisor_list, prime_product
 from rulesquares.remainders import shared_columns, shared_rows
 from rulesquares.rules import WAYS
 
 
 def is_clear(rule, n, step):
     """Return whether each line with a step has each sign exactly once for n."""
-    if n < 1:
-        raise InvalidSize(n)
+    check_size(n)
     return gcd(rule.slope(step), n) == 1
 
 
@@ -23,8 +22,7 @@ def clear_sizes(rule, steps):
 
 def is_paired(one, other, n):
     """Return whether two rules show each pair of signs in exactly one cell for n."""
-    if n < 1:
-        raise InvalidSize(n)
+    check_size(n)
     return gcd(_cross_number(one, other), n) == 1
 
 
@@ -76,11 +74,7 @@ def _cross_number(one, other):
 
 def _coprime_sizes(numbers):
     """Return the calendar of the sizes that have only 1 as a common divisor with each of some numbers."""
-    if 0 in numbers:
+    product = prime_product(numbers)
+    if product == 0:
         return Calendar(1, [], [1])
-    product = 1
-    for number in numbers:
-        for prime in prime_list(abs(number)):
-            if product % prime != 0:
-                product = product * prime
     return Calendar(product, [1], [])

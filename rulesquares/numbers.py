@@ -3,7 +3,7 @@
 from math import gcd
 
 from rulesquares.calendars import Calendar
-from rulesquares.errors import InvalidSize
+from rulesquares.checks import check_size
 from rulesquares.factors import divisor_list
 from rulesquares.lines import pair_sizes
 
@@ -57,8 +57,7 @@ class Numbers:
 
 def even_sum(n):
     """Return the sum of each line of a magic square of size n."""
-    if n < 1:
-        raise InvalidSize(n)
+    check_size(n)
     return n * (n * n + 1) // 2
 
 
@@ -80,8 +79,7 @@ def alike_sizes(square, step):
 
 def unlike_line(square, n, step):
     """Return where the first line with another sum than that from (0, 0) begins, None if there is none."""
-    if n < 1:
-        raise InvalidSize(n)
+    check_size(n)
     high, low = square.high, square.low
     common = gcd(high.slope(step), n)
     low_common = gcd(low.slope(step), n)

@@ -1,6 +1,7 @@
 """Rules that give each cell of a square of any size a sign."""
 
-from rulesquares.errors import InvalidCell, InvalidSize, InvalidTurn
+from rulesquares.checks import check_cell, check_size
+from rulesquares.errors import InvalidTurn
 
 # For each way, how the cell whose sign is taken depends on the cell (r, c) that gets it:
 # its row is the first number times r plus the second one times c, its column likewise with
@@ -59,10 +60,8 @@ class Rule:
 
     def sign(self, n, row, column):
         """Return the sign of a cell in the square of size n."""
-        if n < 1:
-            raise InvalidSize(n)
-        if row < 0 or row >= n or column < 0 or column >= n:
-            raise InvalidCell((row, column))
+        check_size(n)
+        check_cell(n, row, column)
         return self._value(row, column) % n
 
     def slope(self, step):
@@ -72,8 +71,7 @@ class Rule:
 
     def square(self, n):
         """Return the rows of the square of size n."""
-        if n < 1:
-            raise InvalidSize(n)
+        check_size(n)
         return [[self._value(row, column) % n for column in range(n)] for row in range(n)]
 
     def shifted(self, rows, columns):

@@ -1,6 +1,7 @@
 import unittest
+from math import prod
 
-from rulesquares.factors import divisor_list, prime_list
+from rulesquares.factors import divisor_list, prime_list, prime_product
 
 
 class Factors(unittest.TestCase):
@@ -17,3 +18,16 @@ class Factors(unittest.TestCase):
         self.assertEqual(prime_list(997 ** 4), [997])
         self.assertEqual(divisor_list(997 ** 2), [1, 997, 997 ** 2])
         self.assertEqual(prime_list(2 * 1000003), [2, 1000003])
+
+    def test_product_of_primes_against_search(self):
+        for one in range(-60, 61):
+            for other in (-12, -1, 1, 7, 30):
+                found = [d for d in range(2, 61) if one % d == 0 or other % d == 0]
+                expected = prod([p for p in found if all(p % q for q in range(2, p))])
+                self.assertEqual(prime_product([one, other, one]), expected if one != 0 else 0)
+        self.assertEqual((prime_product([]), prime_product([5, 0]), prime_product([2 ** 80, 3])), (1, 0, 6))
+
+    def test_given_numbers_stay(self):
+        numbers = [12, -5, 12]
+        prime_product(numbers)
+        self.assertEqual(numbers, [12, -5, 12])
