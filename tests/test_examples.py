@@ -56,6 +56,37 @@ PLACES = """
 [(1, (1, 0)), (0, None), (2, (1, 1)), (0, None)]
 """
 
+FAMILIES = """
+>>> from rulesquares.families import count_rules, judge_pairs, most_pairs, pair_list, rules_at
+>>> latin, queens = [(0, 1), (1, 0)], [(0, 1), (1, 0), (1, 1), (-1, 1)]
+>>> [count_rules(5, latin), count_rules(5, queens), most_pairs(5, latin), most_pairs(5, queens), most_pairs(10 ** 6 - 17, queens), most_pairs(6, latin), most_pairs(6, queens), rules_at(5, queens)]
+[16, 8, 4, 2, 999980, 1, 0, [(1, 2), (1, 3), (2, 1), (2, 4), (3, 1), (3, 4), (4, 2), (4, 3)]]
+>>> [judge_pairs(5, latin, pair_list(5, latin, 4)), judge_pairs(5, queens, [(1, 2), (2, 1)]), judge_pairs(5, queens, [(1, 2), (2, 4)]), count_rules(35, latin), most_pairs(35, [])]
+[True, True, False, 576, 6]
+"""
+
+FITS = """
+>>> from rulesquares.fits import asked, everywhere, fitting, forced
+>>> seen = [(0, 0, 1), (1, 1, 4)]
+>>> [fitting(6, seen), forced(6, seen, 2, 2), forced(6, seen, 0, 1), asked(6, seen), fitting(6, seen + [(2, 2, 0)])]
+[(6, (0, 3, 1)), (1, 6), (0, 1), (0, 1), (0, None)]
+>>> [forced(6, [(0, 0, 1), (0, 2, 3)], 0, 1), fitting(10 ** 30, [(0, 0, 7), (0, 1, 8), (1, 0, 9)]), everywhere([(5, 0, 0, 1), (5, 1, 1, 4), (7, 1, 1, 4)], 2)]
+[(2, 3), (1, (2, 1, 7)), [(1, 2, 1), (2, 1, 1)]]
+"""
+
+MENDS = """
+>>> from rulesquares.calendars import Calendar
+>>> from rulesquares.lines import clear_sizes
+>>> from rulesquares.mends import best, holds, mends, refuted
+>>> from rulesquares.rules import Rule
+>>> odd, six = Calendar(2, [1], []), Calendar(6, [1], [])
+>>> latin, queens = [(0, 1), (1, 0)], [(0, 1), (1, 0), (1, 1), (-1, 1)]
+>>> [mends(Rule(3, 3, 0), latin, odd, 3), mends(Rule(1, 1, 0), queens, six, 1), mends(Rule(1, 1, 0), queens, odd, 2), best(Rule(1, 1, 0), queens, 1)]
+[[(2, 2), (2, 4), (4, 2), (4, 4)], [(1, 2), (2, 1)], [], [(1, 2), (2, 1)]]
+>>> [holds(clear_sizes(Rule(1, 1, 0), latin), odd), refuted(clear_sizes(Rule(2, 1, 0), queens), odd)]
+[True, 3]
+"""
+
 
 class Examples(unittest.TestCase):
     def check(self, text):
@@ -79,3 +110,12 @@ class Examples(unittest.TestCase):
 
     def test_places(self):
         self.check(PLACES)
+
+    def test_families(self):
+        self.check(FAMILIES)
+
+    def test_fits(self):
+        self.check(FITS)
+
+    def test_mends(self):
+        self.check(MENDS)
