@@ -8,6 +8,9 @@ from rulesquares.factors import divisor_list, prime_product
 from rulesquares.remainders import shared_columns, shared_rows
 from rulesquares.rules import WAYS
 
+ROWS = (0, 1)
+COLUMNS = (1, 0)
+
 
 def is_clear(rule, n, step):
     """Return whether each line with a step has each sign exactly once for n."""

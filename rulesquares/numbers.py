@@ -5,10 +5,8 @@ from math import gcd
 from rulesquares.calendars import Calendar
 from rulesquares.checks import check_size
 from rulesquares.factors import divisor_list
-from rulesquares.lines import pair_sizes
+from rulesquares.lines import COLUMNS, ROWS, pair_sizes
 
-ROWS = (0, 1)
-COLUMNS = (1, 0)
 FALLING = (1, 1)
 RISING = (-1, 1)
 

@@ -11,8 +11,8 @@ def fitting_rules(n, cells):
     """Return (first, moves), None if no rule has the signs of all seen cells.
 
     The first of the fitting tuples in ascending order is first. All of them are reached from it by
-    adding, as remainders by n, multiples of three moves: the first move changes a by a divisor of n
-    and b and d somehow, the second one leaves a and changes b so, the third one leaves a and b.
+    adding, as remainders by n, multiples of three moves: the first move changes a by a divisor of n,
+    the second one leaves a as it is and changes b by such a divisor, the third one changes d alone.
     """
     rows = _triangle(n, [[1, column, row, sign] for row, column, sign in cells])
     if rows[3][3] != n:
@@ -53,10 +53,10 @@ def _narrowed(n, rows, equation):
 
 
 def _completed(n, rows, known):
-    """Return the list of a, b and d, of which the first ones are known, and each other one is least."""
+    """Return the list of a, b and d, of which the first ones are known, and each next one is least."""
     found = list(known)
     for at in reversed(range(3 - len(known))):
         row = rows[at]
-        told = sum([factor * value for factor, value in zip(reversed(row[at + 1:3]), found)])
-        found.append(solved(row[at], row[3] - told, n)[0])
+        known_part = sum([factor * value for factor, value in zip(reversed(row[at + 1:3]), found)])
+        found.append(solved(row[at], row[3] - known_part, n)[0])
     return found

@@ -1,18 +1,11 @@
-import unittest
-
 from rulesquares.checks import check_cell, check_number, check_seen, check_size
-from rulesquares.errors import InvalidCell, InvalidNumber, InvalidSize, SquareError
+from rulesquares.errors import InvalidCell, InvalidNumber, InvalidSize
+from wrong import Wrong
 
 FAR = 10 ** 61
 
 
-class Checks(unittest.TestCase):
-    def check(self, kind, value, call, *given):
-        with self.assertRaises(SquareError) as caught:
-            call(*given)
-        self.assertIs(type(caught.exception), kind)
-        self.assertEqual(caught.exception.value, value)
-
+class Checks(Wrong):
     def test_what_is_right_raises_nothing(self):
         for n in (1, 2, 7, FAR):
             self.assertIsNone(check_size(n))

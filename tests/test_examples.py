@@ -1,6 +1,7 @@
-"""The examples of the document, as they are written there."""
+"""The examples of the document, as they are written there, and those of README.md."""
 
 import doctest
+import pathlib
 import unittest
 
 CALENDARS = """
@@ -87,6 +88,34 @@ MENDS = """
 [True, 3]
 """
 
+JOINED = """
+>>> from rulesquares.joined import Joined
+>>> from rulesquares.rules import Rule
+>>> one, other = Joined(Rule(1, 1, 0), 3, Rule(1, 1, 0), 5), Joined(Rule(2, 1, 0), 3, Rule(2, 1, 0), 5)
+>>> [one.size, one.sign(7, 4), one.rows_clear(), one.paired(other), one.place(7, 6), Joined(Rule(1, 1, 0), 3, Rule(1, 2, 0), 4).rows_clear()]
+[15, 6, True, True, [4], False]
+"""
+
+BOARDS = """
+>>> from rulesquares.boards import Board, ClearBoard
+>>> board = Board(6)
+>>> [board(0, 0, 1), board(1, 1, 4), board.signs_at(2, 2), board.fits, board.undo(), board.cells, len(board)]
+[36, 6, (1, 6), (6, (0, 3, 1)), None, [(0, 0, 1)], 1]
+>>> clear = ClearBoard(5, [(0, 1), (1, 0)])
+>>> [clear.add_all([(0, 0, 0), (0, 1, 1)]), clear.signs_at(0, 4), clear(1, 0, 2), clear.fits, clear == Board(5)]
+[5, (4, 5), 1, (1, (2, 1, 0)), False]
+"""
+
+READINGS = """
+>>> from rulesquares.calendars import Calendar
+>>> from rulesquares.readings import read_calendar, read_rule, read_square
+>>> from rulesquares.rules import Rule
+>>> from rulesquares.texts import show_calendar, show_rule, show_square
+>>> some = Calendar(6, [1, 2], [4, 9])
+>>> [show_rule(Rule(2, -1, 0)), read_rule("2r + -1c + 0") == Rule(2, -1, 0), show_calendar(some), read_calendar(show_calendar(some)) == some, show_square(Rule(2, 1, 0).square(3)), read_square("0 1; -5")]
+['2r + -1c + 0', True, '3 (1) but 4,9', True, '0 1 2; 2 0 1; 1 2 0', [[0, 1], [-5]]]
+"""
+
 
 class Examples(unittest.TestCase):
     def check(self, text):
@@ -119,3 +148,16 @@ class Examples(unittest.TestCase):
 
     def test_mends(self):
         self.check(MENDS)
+
+    def test_joined(self):
+        self.check(JOINED)
+
+    def test_boards(self):
+        self.check(BOARDS)
+
+    def test_readings(self):
+        self.check(READINGS)
+
+    def test_readme(self):
+        text = (pathlib.Path(__file__).resolve().parent.parent / "README.md").read_text()
+        self.check("".join(text.split("```")[1::2]))

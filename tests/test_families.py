@@ -1,13 +1,12 @@
-import inspect
 import itertools
 import random
 import unittest
 from math import gcd
 
 import walked
-from rulesquares import families
 from rulesquares.errors import InvalidNumber, InvalidSize, SquareError
 from rulesquares.families import count_rules, judge_pairs, most_pairs, pair_list, rules_at
+from wrong import Wrong
 
 LATIN = [(0, 1), (1, 0)]
 QUEENS = [(0, 1), (1, 0), (1, 1), (-1, 1)]
@@ -257,13 +256,7 @@ class Judged(unittest.TestCase):
         self.assertIs(judge_pairs(n=5, steps=QUEENS, told=[(1, 2), (2, 1)]), True)
 
 
-class WrongInputs(unittest.TestCase):
-    def check(self, kind, value, call, *given):
-        with self.assertRaises(SquareError) as caught:
-            call(*given)
-        self.assertIs(type(caught.exception), kind)
-        self.assertEqual(caught.exception.value, value)
-
+class WrongInputs(Wrong):
     def test_sizes(self):
         for n in (0, -1, -10 ** 61):
             for steps in (LATIN, [], [(0, 0)]):
@@ -321,13 +314,3 @@ class Values(unittest.TestCase):
             self.assertIsNot(first, second)
             first.append(None)
             self.assertEqual(call(), second)
-
-    def test_interface(self):
-        wanted = {
-            "count_rules": "n steps", "rules_at": "n steps", "most_pairs": "n steps", "pair_list": "n steps many",
-            "judge_pairs": "n steps told",
-        }
-        for name, given in wanted.items():
-            function = getattr(families, name)
-            self.assertEqual(function.__module__, "rulesquares.families")
-            self.assertEqual(list(inspect.signature(function).parameters), given.split())

@@ -1,13 +1,12 @@
-import inspect
 import itertools
 import random
 import unittest
 from math import gcd
 
 import walked
-from rulesquares import fits
 from rulesquares.errors import InvalidCell, InvalidNumber, InvalidSize, SquareError
 from rulesquares.fits import asked, everywhere, fitting, forced
+from wrong import Wrong
 
 GREAT = 10 ** 30
 FAR = 10 ** 61
@@ -275,13 +274,7 @@ class Everywhere(unittest.TestCase):
         self.assertEqual(everywhere(seen=[(7, 0, 0, 1), (7, 0, 1, 3), (7, 1, 0, 1)], most=2), [(0, 2, 1)])
 
 
-class WrongInputs(unittest.TestCase):
-    def check(self, kind, value, call, *given):
-        with self.assertRaises(SquareError) as caught:
-            call(*given)
-        self.assertIs(type(caught.exception), kind)
-        self.assertEqual(caught.exception.value, value)
-
+class WrongInputs(Wrong):
     def each(self, kind, value, n, cells):
         """All functions raise the same for a size and seen cells, also ahead of the cell that is asked for."""
         self.check(kind, value, fitting, n, cells)
@@ -358,11 +351,3 @@ class Values(unittest.TestCase):
         self.assertEqual(fitting(n=6, cells=cells), (6, (0, 3, 1)))
         self.assertEqual(forced(n=6, cells=cells, row=2, column=2), (1, 6))
         self.assertEqual(asked(n=6, cells=cells), (0, 1))
-
-    def test_interface(self):
-        wanted = {
-            "fitting": "n cells", "forced": "n cells row column", "asked": "n cells", "everywhere": "seen most"}
-        for name, given in wanted.items():
-            function = getattr(fits, name)
-            self.assertEqual(function.__module__, "rulesquares.fits")
-            self.assertEqual(list(inspect.signature(function).parameters), given.split())

@@ -1,10 +1,8 @@
-import inspect
 import itertools
 import random
 import unittest
 from math import gcd
 
-from rulesquares import mends as mending
 from rulesquares.calendars import Calendar
 from rulesquares.factors import divisor_list
 from rulesquares.lines import clear_sizes, is_clear
@@ -213,7 +211,9 @@ class Values(unittest.TestCase):
 
     def test_returned_lists_are_new(self):
         rule = Rule(3, 3, 0)
-        for call in (lambda: mends(rule, LATIN, ODD, 3), lambda: best(rule, LATIN, 2), lambda: mends(rule, LATIN, EVERY, 0)):
+        calls = [
+            lambda: mends(rule, LATIN, ODD, 3), lambda: best(rule, LATIN, 2), lambda: mends(rule, LATIN, EVERY, 0)]
+        for call in calls:
             first, second = call(), call()
             self.assertIsNot(first, second)
             self.assertEqual((type(first), {type(pair) for pair in first} <= {tuple}), (list, True))
@@ -225,10 +225,3 @@ class Values(unittest.TestCase):
         self.assertEqual(best(rule=Rule(1, 1, 0), steps=QUEENS, most=1), [(1, 2), (2, 1)])
         self.assertIs(holds(told=ODD, sizes=SIX), True)
         self.assertEqual(refuted(told=SIX, sizes=ODD), 3)
-
-    def test_interface(self):
-        wanted = {"mends": "rule steps sizes most", "best": "rule steps most", "holds": "told sizes", "refuted": "told sizes"}
-        for name, given in wanted.items():
-            function = getattr(mending, name)
-            self.assertEqual(function.__module__, "rulesquares.mends")
-            self.assertEqual(list(inspect.signature(function).parameters), given.split())

@@ -9,6 +9,7 @@ from rulesquares.errors import InvalidCell, InvalidSize, SquareError
 from rulesquares.numbers import (
     Numbers, alike_sizes, even_sizes, even_sum, magic_sizes, main_sizes, once_sizes, unlike_line, whole_sizes)
 from rulesquares.rules import Rule
+from wrong import Wrong
 
 GREAT = 10 ** 30
 FAR = 10 ** 59 + 7
@@ -312,13 +313,7 @@ class Cells(unittest.TestCase):
             self.assertTrue(square != unlike)
 
 
-class WrongInputs(unittest.TestCase):
-    def check(self, kind, value, call, *given):
-        with self.assertRaises(SquareError) as caught:
-            call(*given)
-        self.assertIs(type(caught.exception), kind)
-        self.assertEqual(caught.exception.value, value)
-
+class WrongInputs(Wrong):
     def test_sizes(self):
         square = made(((1, 2, 1), (2, -1, 0)))
         for n in (0, -1, -GREAT):

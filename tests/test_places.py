@@ -8,6 +8,7 @@ from rulesquares.errors import InvalidNumber, InvalidSize, SquareError
 from rulesquares.numbers import Numbers
 from rulesquares.places import cells_of, columns_of, overlap, rows_of
 from rulesquares.rules import Rule
+from wrong import Wrong
 
 GREAT = 10 ** 30
 FAR = 10 ** 59 + 7
@@ -174,13 +175,7 @@ class InCells(unittest.TestCase):
         self.assertEqual((type(found), type(found[1])), (tuple, tuple))
 
 
-class WrongInputs(unittest.TestCase):
-    def check(self, kind, value, call, *given):
-        with self.assertRaises(SquareError) as caught:
-            call(*given)
-        self.assertIs(type(caught.exception), kind)
-        self.assertEqual(caught.exception.value, value)
-
+class WrongInputs(Wrong):
     def test_sizes(self):
         rule = Rule(2, 1, 0)
         for n in (0, -1, -GREAT):

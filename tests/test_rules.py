@@ -2,6 +2,7 @@ import unittest
 
 from rulesquares.errors import InvalidCell, InvalidSize, InvalidTurn, SquareError
 from rulesquares.rules import Rule
+from wrong import Wrong
 
 GREAT = 10 ** 59 + 7
 RULES = [
@@ -137,13 +138,7 @@ class Operators(unittest.TestCase):
             self.assertTrue(Rule(1, 2, 3) != other)
 
 
-class WrongInputs(unittest.TestCase):
-    def check(self, kind, value, call, *given):
-        with self.assertRaises(SquareError) as caught:
-            call(*given)
-        self.assertIs(type(caught.exception), kind)
-        self.assertEqual(caught.exception.value, value)
-
+class WrongInputs(Wrong):
     def test_sizes(self):
         rule = Rule(2, 1, 0)
         for n in (0, -1, -10 ** 61):
