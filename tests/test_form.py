@@ -20,6 +20,8 @@ BUILTINS = set(
     " Exception ValueError TypeError KeyError IndexError LookupError ZeroDivisionError ArithmeticError OverflowError"
     " RuntimeError NotImplementedError AttributeError StopIteration NotImplemented".split())
 BARRED = set("mro elements open input law version_info with_traceback add_note".split())
+DOUBLE = set(
+    "__init__ __eq__ __len__ __call__ __contains__ __and__ __or__ __invert__ __add__ __sub__ __mul__".split())
 EXCLUDED = (ast.AsyncFunctionDef, ast.AsyncFor, ast.AsyncWith, ast.Await, ast.Div, ast.MatMult)
 
 
@@ -96,3 +98,32 @@ class Form(unittest.TestCase):
         for name, node in nodes(ast.BinOp):
             if isinstance(node.op, ast.Pow):
                 self.assertIsInstance(node.right, ast.Constant, (name, node.lineno))
+
+    def test_decorators_and_double_underscore_methods(self):
+        for name, node in nodes(ast.FunctionDef):
+            told = [ast.unparse(decorator) for decorator in node.decorator_list]
+            self.assertIn(told, ([], ["property"]), (name, node.name))
+            if node.name.startswith("__"):
+                self.assertIn(node.name, DOUBLE, (name, node.name))
+        for name, node in nodes(ast.ClassDef):
+            for method in node.body:
+                if getattr(method, "name", None) == "__eq__":
+                    self.assertTrue(
+                        ast.unparse(method.body[0]).startswith(f"return isinstance(other, {node.name}) and "), name)
+
+    def test_errors_that_are_caught_and_raised(self):
+        own = {node.name for name, node in nodes(ast.ClassDef) if name == "errors.py"}
+        for name, node in nodes(ast.ExceptHandler):
+            kinds = node.type.elts if isinstance(node.type, ast.Tuple) else [node.type]
+            self.assertLessEqual({ast.unparse(kind) for kind in kinds}, own, (name, node.lineno))
+        for name, node in nodes(ast.Raise):
+            self.assertIsInstance(node.exc, ast.Call, (name, node.lineno))
+            self.assertIn(ast.unparse(node.exc.func), own, (name, node.lineno))
+
+    def test_is_and_generators(self):
+        for name, node in nodes(ast.Compare):
+            for operator, side in zip(node.ops, node.comparators):
+                if isinstance(operator, (ast.Is, ast.IsNot)):
+                    self.assertEqual(ast.unparse(side), "None", (name, node.lineno))
+        for name, node in nodes((ast.GeneratorExp, ast.Yield, ast.YieldFrom, ast.Global, ast.Lambda)):
+            self.fail((name, node.lineno, node))
